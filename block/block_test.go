@@ -111,6 +111,10 @@ func wantBlocks(t *testing.T, parts [][]byte, kinds []int) []block {
 		if b.size > most(b.kind, len(parts[i])) {
 			t.Errorf("block %d of kind %d, of %d bytes, has %d bits", i, b.kind, len(parts[i]), b.size)
 		}
+		// With api.MaxScript such blocks of api.MaxBytes bytes together a row can still be unpacked.
+		if b.size > 188+9*len(parts[i]) {
+			t.Errorf("block %d of kind %d, of %d bytes, has %d bits: too many such could not be unpacked", i, b.kind, len(parts[i]), b.size)
+		}
 	}
 	// More could not be unpacked again.
 	if len(out) > api.MaxPacked {
@@ -235,6 +239,20 @@ func TestDynamicCodesAreShort(t *testing.T) {
 	}
 }
 
+// Nor does it pay to tell a code of many kinds of bytes for each of them once.
+func TestDynamicCodesAreToldInFewBits(t *testing.T) {
+	longest := 0
+	for many := range 256 {
+		for seed := range uint32(4) {
+			longest = max(longest, wantBlock(t, noise(many, 256, seed), dynamic).size-8*many)
+		}
+		longest = max(longest, wantBlock(t, spread(many), dynamic).size-8*many)
+	}
+	if longest < 180 {
+		t.Errorf("at most %d bits beside 8 of each byte: the tries have none of many kinds", longest)
+	}
+}
+
 func TestHowMany(t *testing.T) {
 	for n := api.MinSame; n <= api.MaxSame; n++ {
 		for _, kind := range []int{fixed, dynamic} {
@@ -304,7 +322,8 @@ func TestZerosAreTold(t *testing.T) {
 	}
 }
 
-// 127 bytes of as many kinds, and the end: 128 codes of 7 bits. The first of them stand side by side, the others don't.
+// Bytes of 127 kinds, and the end: 128 codes of 7 bits. The first of them stand side by side, the others don't. All are
+// there and back again, so that the codes pay, and none stood ahead.
 func TestLengthsAreToldAgain(t *testing.T) {
 	told := map[[2]int]int{}
 	for run := 1; run <= 127; run++ {
@@ -315,7 +334,9 @@ func TestLengthsAreToldAgain(t *testing.T) {
 		for i := range 127 - run {
 			part = append(part, byte(run+1+2*i))
 		}
-		b := wantBlock(t, part, dynamic)
+		back := slices.Clone(part)
+		slices.Reverse(back)
+		b := wantBlock(t, append(part, back...), dynamic)
 		want := make([]int, 257)
 		for _, c := range part {
 			want[c] = 7

@@ -4,37 +4,65 @@ import (
 	"slices"
 
 	"reliquary/api"
+	"reliquary/layout"
 	"reliquary/weigh"
 )
 
-const (
-	leastSymbols = end + 1 // lengths of symbols that are told at least
-	leastFars    = 1       // lengths of how far
-	leastOwn     = 4       // lengths of the code of lengths
-	ownBits      = 7       // the greatest length of that code: it is told in 3 bits
-)
+// ownBits: the greatest length of the code of lengths, as it is told in 3 bits.
+const ownBits = 7
 
-// Symbols of the code of lengths that aren't lengths themselves.
-const (
-	again     = 16 // the length ahead, 3 to 6 times
-	zeros     = 17 // 0, 3 to 10 times
-	manyZeros = 18 // 0, 11 to 138 times
-)
+// plan of a Dynamic block: its tokens, and the lengths of the codes by which they are told.
+type plan struct {
+	tokens        []api.Token
+	symbols, fars []int
+}
 
-// order in which the lengths of the code of lengths are told: those that are wanted least often come last.
-var order = [19]int{16, 17, 18, 0, 8, 7, 9, 6, 10, 5, 11, 4, 12, 3, 13, 2, 14, 1, 15}
+// putDynamic lays a part by codes that are told ahead of it: the shortest ones for its tokens, or even ones, where to
+// tell the shortest takes more bits than they spare. So no block takes more than 188 bits beside 9 of each byte, and no
+// row of blocks more than api.MaxPacked bytes: whatever is packed can be unpacked.
+func putDynamic(r *row, part []byte, tokens []api.Token) {
+	best := shortest(tokens)
+	if p := even(part); p.bits() < best.bits() {
+		best = p
+	}
+	best.put(r)
+}
 
-// putDynamic lays tokens by codes that are the shortest for them, and these codes ahead.
-func putDynamic(r *row, tokens []api.Token) {
-	symbolCounts, farCounts := count(tokens)
-	symbols := lengthsOf(symbolCounts[:], api.MaxBits, leastSymbols)
-	fars := lengthsOf(farCounts[:], api.MaxBits, leastFars)
-	putLengths(r, symbols, fars)
-	pass(tokens, putter(r, symbols, fars))
+// shortest answers the plan by codes that are the shortest for these tokens.
+func shortest(tokens []api.Token) plan {
+	symbols, fars := count(tokens)
+	return plan{tokens, lengthsOf(symbols[:], api.MaxBits, layout.LeastSymbols), lengthsOf(fars[:], api.MaxBits, layout.LeastFars)}
+}
+
+// even answers the plan by a code in which all bytes have 8 bits, but one that makes room for the end. Its lengths are
+// told in few bits.
+func even(part []byte) plan {
+	p := plan{symbols: make([]int, layout.LeastSymbols), fars: make([]int, layout.LeastFars)}
+	for _, b := range part {
+		p.tokens = append(p.tokens, api.Token{Byte: b})
+	}
+	for s := range p.symbols {
+		p.symbols[s] = 8
+	}
+	p.symbols[layout.End-1], p.symbols[layout.End] = 9, 9
+	return p
+}
+
+// put lays the codes and the tokens behind a row.
+func (p plan) put(r *row) {
+	putLengths(r, p.symbols, p.fars)
+	pass(p.tokens, putter(r, p.symbols, p.fars))
+}
+
+// bits tells how many bits that takes.
+func (p plan) bits() int {
+	r := &row{}
+	p.put(r)
+	return 8*len(r.bytes) - r.free
 }
 
 // count tells how often each symbol is wanted.
-func count(tokens []api.Token) (symbols [lastSame + 1]int, fars [manyFars]int) {
+func count(tokens []api.Token) (symbols [layout.LastSame + 1]int, fars [layout.ManyFars]int) {
 	pass(tokens, sink{
 		symbol: func(symbol int) { symbols[symbol]++ },
 		far:    func(symbol int) { fars[symbol]++ },
@@ -57,16 +85,17 @@ func lengthsOf(counts []int, most, least int) []int {
 // putLengths tells the lengths of both codes, by a code of lengths that is told ahead.
 func putLengths(r *row, symbols, fars []int) {
 	all := slices.Concat(symbols, fars)
-	var counts [len(order)]int
+	order := layout.Order()
+	var counts [layout.ManyOwn]int
 	passLengths(all, func(symbol, rest, size int) { counts[symbol]++ })
 	own := lengthsOf(counts[:], ownBits, len(order))
 	many := len(order)
-	for many > leastOwn && own[order[many-1]] == 0 {
+	for many > layout.LeastOwn && own[order[many-1]] == 0 {
 		many--
 	}
-	r.put(len(symbols)-leastSymbols, 5)
-	r.put(len(fars)-leastFars, 5)
-	r.put(many-leastOwn, 4)
+	r.put(len(symbols)-layout.LeastSymbols, 5)
+	r.put(len(fars)-layout.LeastFars, 5)
+	r.put(many-layout.LeastOwn, 4)
 	for i := range many {
 		r.put(own[order[i]], 3)
 	}
@@ -103,13 +132,13 @@ func passRun(length, many int, to func(symbol, rest, size int)) {
 			to(length, 0, 0)
 		case length > 0:
 			times = min(many, 6)
-			to(again, times-3, 2)
+			to(layout.Again, times-3, 2)
 		case many < 11:
 			times = many
-			to(zeros, times-3, 3)
+			to(layout.Zeros, times-3, 3)
 		default:
 			times = min(many, 138)
-			to(manyZeros, times-11, 7)
+			to(layout.ManyZeros, times-11, 7)
 		}
 		many -= times
 	}
